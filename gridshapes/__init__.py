@@ -1,0 +1,1 @@
+"""Gridshapes: where shapes with corners at grid points stand to each other."""

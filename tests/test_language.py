@@ -1,0 +1,158 @@
+"""The rules of the language that the package is written in, as far as they are easily seen."""
+
+import ast
+import builtins
+import pathlib
+import re
+import unittest
+
+PACKAGE = pathlib.Path(__file__).resolve().parent.parent / "gridshapes"
+FILES = sorted(path for path in PACKAGE.iterdir() if path.name != "__pycache__")
+BUILTINS = set(
+    "len range enumerate zip min max sum abs sorted reversed int str bool bytes list tuple dict set isinstance ord "
+    "repr any all divmod iter next map Exception ValueError TypeError KeyError IndexError LookupError "
+    "ZeroDivisionError ArithmeticError OverflowError RuntimeError NotImplementedError AttributeError super".split())
+METHODS = set(
+    "append clear copy count endswith extend find get index insert isalnum isalpha isdigit islower isspace isupper "
+    "items join keys ljust lower lstrip partition pop remove replace reverse rfind rjust rpartition rsplit rstrip "
+    "setdefault split splitlines startswith strip update upper values zfill bit_length __init__".split())
+NOT_USED = re.compile(
+    r"\b(register|mro|elements|open|input|law|version_info|with_traceback|add_note|type|typing|enum|Enum|eval|exec|"
+    r"exit|getattr|setattr|delattr|hasattr|globals|locals|vars|id|dir|os|sys|compile|help|license|quit|gc)\b")
+OUTSIDE = {"math": {"gcd", "lcm", "isqrt", "comb", "perm", "factorial"},
+           "itertools": {"product", "combinations", "permutations"},
+           "heapq": {"heappush", "heappop", "heapify", "heapreplace", "heappushpop"}}
+STATEMENTS = (
+    ast.FunctionDef, ast.ClassDef, ast.Return, ast.Delete, ast.Assign, ast.AugAssign, ast.For, ast.While, ast.If,
+    ast.With, ast.Raise, ast.Try, ast.Assert, ast.ImportFrom, ast.Expr, ast.Pass, ast.Break, ast.Continue,
+    ast.Nonlocal)
+FLOW = ("any", "all", "min", "max", "sum", "sorted", "list", "tuple", "dict", "enumerate", "zip")
+
+
+def trees():
+    for path in FILES:
+        yield path, ast.parse(path.read_text(encoding="ascii"))
+
+
+def bound_names(tree):
+    """Pairs of a bound name and the kind of its binding."""
+    for node in ast.walk(tree):
+        if isinstance(node, ast.arg):
+            yield node.arg, "local"
+        elif isinstance(node, ast.Name) and isinstance(node.ctx, ast.Store):
+            yield node.id, "local"
+        elif isinstance(node, ast.ImportFrom):
+            for name in node.names:
+                yield name.name, "import"
+        elif isinstance(node, (ast.FunctionDef, ast.ClassDef)):
+            yield node.name, "def"
+
+
+class Language(unittest.TestCase):
+    def test_files(self):
+        names = [path.name for path in FILES]
+        self.assertIn("__init__.py", names)
+        for name in names:
+            self.assertRegex(name, r"^[a-z_]+\.py$")
+
+    def test_lines(self):
+        for path in FILES:
+            text = path.read_text(encoding="ascii")
+            rows = text.split("\n")
+            self.assertLessEqual(len(rows) - 1, 399, path)
+            self.assertLessEqual(max(len(row) for row in rows), 120, path)
+            self.assertRegex(text, r"^[ -~\n]*$")
+            self.assertNotIn("_wa" + "ll", text, path)
+            self.assertNotIn("%", re.sub(r" % ", "", text), path)
+
+    def test_functions(self):
+        for path, tree in trees():
+            for node in ast.walk(tree):
+                if isinstance(node, ast.FunctionDef):
+                    self.assertLessEqual(node.end_lineno - node.lineno + 1, 40, (path, node.name))
+                    self.assertEqual(node.decorator_list, [], (path, node.name))
+
+    def test_statements_and_signs(self):
+        for path, tree in trees():
+            for node in ast.walk(tree):
+                here = (path.name, getattr(node, "lineno", 0))
+                if isinstance(node, ast.stmt):
+                    self.assertIsInstance(node, STATEMENTS, here)
+                self.assertNotIsInstance(node, (ast.GeneratorExp, ast.Set, ast.SetComp, ast.Div), here)
+                if isinstance(node, ast.Constant):
+                    self.assertNotIsInstance(node.value, (float, complex), here)
+                if isinstance(node, ast.Compare):
+                    for op, other in zip(node.ops, node.comparators):
+                        if isinstance(op, (ast.Is, ast.IsNot)):
+                            self.assertIsInstance(other, ast.Constant, here)
+                if isinstance(node, ast.Raise):
+                    self.assertIsInstance(node.exc, ast.Call, here)
+                if isinstance(node, ast.Attribute):
+                    self.assertIn(node.attr, METHODS | {"told", "most"}, here)
+                if isinstance(node, ast.BinOp) and isinstance(node.op, ast.Pow):
+                    self.assertIsInstance(node.right, ast.Constant, here)
+                    self.assertNotEqual(getattr(node.left, "value", 0), 2, here)
+
+    def test_names(self):
+        taken = set(dir(builtins))
+        for path, tree in trees():
+            rows = list(bound_names(tree))
+            imports = [name for name, kind in rows if kind == "import"]
+            defined = [name for name, kind in rows if kind == "def" and name != "__init__"]
+            self.assertEqual(len(imports + defined), len(set(imports + defined)), path)
+            for name, kind in rows:
+                self.assertNotIn(name, taken, path)
+                self.assertNotRegex(name, NOT_USED, path)
+                self.assertFalse(name.startswith("__") and name != "__init__", path)
+                if kind == "local":
+                    self.assertNotIn(name, imports + defined, path)
+            for node in ast.walk(tree):
+                if isinstance(node, ast.Name) and node.id in taken:
+                    self.assertIn(node.id, BUILTINS, (path, node.lineno))
+                if isinstance(node, ast.Constant) and isinstance(node.value, str):
+                    self.assertNotIn("__", node.value, path)
+
+    def test_imports(self):
+        files = {path.stem: tree for path, tree in trees()}
+        uses = {}
+        for name, tree in files.items():
+            uses[name] = set()
+            read = {node.id for node in ast.walk(tree) if isinstance(node, ast.Name)}
+            for node in ast.walk(tree):
+                self.assertNotIsInstance(node, ast.Import, name)
+                if not isinstance(node, ast.ImportFrom):
+                    continue
+                self.assertEqual(node.level, 0)
+                told = {alias.name for alias in node.names}
+                self.assertEqual([alias.asname for alias in node.names], [None] * len(told))
+                self.assertLessEqual(told, read, (name, told - read))
+                if node.module in OUTSIDE:
+                    self.assertLessEqual(told, OUTSIDE[node.module])
+                    continue
+                package, _, source = node.module.partition(".")
+                self.assertEqual(package, "gridshapes")
+                uses[name].add(source)
+                here = {n.name for n in files[source].body if isinstance(n, (ast.FunctionDef, ast.ClassDef))}
+                here |= {n.targets[0].id for n in files[source].body if isinstance(n, ast.Assign)}
+                self.assertLessEqual(told, here, (name, source))
+        while uses:
+            free = [name for name, sources in uses.items() if not sources & set(uses)]
+            self.assertTrue(free, f"these import from each other: {sorted(uses)}")
+            for name in free:
+                del uses[name]
+
+    def test_iterated_at_once(self):
+        for path, tree in trees():
+            for node in ast.walk(tree):
+                for child in ast.iter_child_nodes(node):
+                    if not isinstance(child, ast.Call) or not isinstance(child.func, ast.Name):
+                        continue
+                    if child.func.id not in ("zip", "enumerate", "range", "reversed", "combinations"):
+                        continue
+                    right = isinstance(node, (ast.For, ast.comprehension)) or (
+                        isinstance(node, ast.Call) and node.func.id in FLOW + ("combinations",))
+                    self.assertTrue(right, (path, child.lineno))
+
+
+if __name__ == "__main__":
+    unittest.main()

@@ -1,0 +1,87 @@
+"""The interface as the document writes it: names, arguments, and where they are defined; its examples."""
+
+import importlib
+import inspect
+import unittest
+
+from gridshapes.areas import core_of, counting_triple, rim_of, twice_area
+from gridshapes.moving import course_of, meeting_time, overlap_time
+from gridshapes.rounds import hull_of, sides_of, walls_of
+from gridshapes.stands import stand_of, stand_paper, stand_shape
+from gridshapes.sums import mixed_of, rest_of, sum_of
+
+INTERFACE = {
+    "numbers": """is_fraction(value) is_point(value) is_fine_point(value) fraction_of(top,bottom) comes_ahead(one,other)
+        same_slope(one,other) bare_vector(vector) in_slopes(vectors)""",
+    "rounds": """is_round(value) is_fine_shape(value) hull_of(points) sides_of(shape) shape_by(point,sides)
+        moved(shape,shift) reach(shape,u) walls_of(shape) fine_of(shape) place_in(shape,p) fine_borders(fine)
+        fine_place(fine,p)""",
+    "areas": """twice_area(shape) rim_of(shape) core_of(shape) points_in(shape) length_of(vector)
+        rim_point(shape,number) rim_number(shape,point) multiple_of(shape,k) counting_triple(shape)
+        points_in_multiple(shape,k) core_of_multiple(shape,k) first_multiple(shape,many) multiple_with(shape,many)
+        centre_of(shape)""",
+    "sums": """sum_of(one,other) sum_of_all(shapes) opposite_of(shape) rest_of(whole,part) how_often(whole,part)
+        rest_paper(whole,part) accepts_rest(whole,part,paper) is_even(shape) stretches_of(shape)
+        sum_of_stretches(point,vectors) mixed_of(one,other) breadth_of(shape,u)""",
+    "stands": """stand_shape(one,other) stand_of(one,other,t=(0,0)) meets(one,other,t=(0,0))
+        overlaps(one,other,t=(0,0)) trial_directions(one,other) parting_directions(one,other,t=(0,0))
+        stand_paper(one,other,t=(0,0)) accepts_stand(one,other,t,paper) count_shifts(one,other)""",
+    "commons": """common_part(shapes) common_point(shapes) first_empty(shapes) none_paper(shapes)
+        accepts_none(shapes,paper)""",
+    "moving": """word_at(mover,still,shift,vector,moment) meeting_time(mover,still,shift,vector)
+        overlap_time(mover,still,shift,vector) course_of(mover,still,shift,vector)
+        meets_of(mover,shapes,shift,vector) is_free(mover,shapes,shift,vector) free_until(mover,shapes,shift,vector)
+        both_moving(mover,still,shift,vector,other_shift,other_vector) leg_paper(mover,still,shift,vector)
+        free_paper(mover,still,shift,vector) accepts_leg(mover,still,shift,vector,value)
+        accepts_free(mover,still,shift,vector,value)""",
+}
+
+
+class Interface(unittest.TestCase):
+    def test_names_arguments_and_files(self):
+        for name, rows in INTERFACE.items():
+            module = importlib.import_module(f"gridshapes.{name}")
+            for row in rows.split():
+                function = getattr(module, row.partition("(")[0])
+                self.assertTrue(inspect.isfunction(function), row)
+                self.assertEqual(function.__module__, module.__name__)
+                told = function.__name__ + str(inspect.signature(function)).replace(" ", "")
+                self.assertEqual(told, row)
+
+
+class Examples(unittest.TestCase):
+    wedge = ((0, 0), (4, 0), (0, 3))
+    square = ((0, 0), (1, 0), (1, 1), (0, 1))
+
+    def test_rounds(self):
+        shape = hull_of([(0, 3), (2, 1), (4, 0), (0, 0)])
+        self.assertEqual(shape, ((0, 0), (4, 0), (0, 3)))
+        self.assertEqual(sides_of(shape), ((4, 0), (-4, 3), (0, -3)))
+        self.assertEqual(walls_of(shape), (((0, -1), (0, 1)), ((3, 4), (12, 1)), ((-1, 0), (0, 1))))
+
+    def test_areas_and_sums(self):
+        wedge, square = self.wedge, self.square
+        self.assertEqual((twice_area(wedge), rim_of(wedge), core_of(wedge), counting_triple(wedge)),
+                         (12, 8, 3, (12, 8, 2)))
+        self.assertEqual((sum_of(wedge, square), mixed_of(wedge, square)),
+                         (((0, 0), (5, 0), (5, 1), (1, 4), (0, 4)), 14))
+        self.assertEqual(rest_of(((0, 0), (5, 0), (5, 1), (1, 4), (0, 4)), square), wedge)
+
+    def test_stands(self):
+        square, three = self.square, self.wedge
+        self.assertEqual(stand_shape(square, three), ((-1, -1), (4, -1), (4, 0), (0, 3), (-1, 3)))
+        self.assertEqual(
+            (stand_of(square, three, (3, 0)), stand_paper(square, three, (4, 0)), stand_paper(square, three, (5, 0))),
+            ("overlap", ("touch", ((4, 1), (0, 1)), ((-1, 0), (-4, 1))), ("apart", (-1, 0), (-5, 1))))
+
+    def test_moving(self):
+        leg = (self.square, self.wedge, (10, 0), (-12, 0))
+        self.assertEqual(meeting_time(*leg), ((1, 2), (11, 12)))
+        self.assertEqual(overlap_time(*leg), ((1, 2), (11, 12)))
+        self.assertEqual(course_of(*leg), [
+            ((0, 1), "apart", "apart"), ((1, 2), "touch", "overlap"), ((11, 12), "touch", "apart"),
+            ((1, 1), "apart", None)])
+
+
+if __name__ == "__main__":
+    unittest.main()

@@ -1,12 +1,12 @@
 """What round shapes have in common, and papers that show that it is nothing."""
 
 from itertools import combinations
-from math import gcd
 
+from gridshapes.barring import barring_pairs
 from gridshapes.clips import common_of, cut_by_all
 from gridshapes.corners import borders_by
 from gridshapes.errors import TooMany
-from gridshapes.numbers import cross, is_number, turned_about
+from gridshapes.numbers import is_number
 from gridshapes.papers import has_word
 from gridshapes.sums import need_shapes, told_corners
 from gridshapes.triples import fine_point_of, fine_points_of
@@ -55,37 +55,6 @@ def first_empty(shapes):
     return empty_by(shapes)
 
 
-def barring_two(walls):
-    """The indexes and weights of the first two walls that bar a common point, [] without any."""
-    for i, j in combinations(range(len(walls)), 2):
-        (u, c), (v, d) = walls[i], walls[j]
-        # Bare vectors sum to (0, 0) only with like weights.
-        if u == turned_about(v) and c[0] + d[0] < 0:
-            return [(i, 1), (j, 1)]
-    return []
-
-
-def weights_of(u, v, w):
-    """The least weights above 0 by which three vectors, not all in a line, sum to (0, 0); None without any."""
-    a, b, c = cross(v, w), cross(w, u), cross(u, v)
-    if a < 0:
-        a, b, c = 0 - a, 0 - b, 0 - c
-    if a <= 0 or b <= 0 or c <= 0:
-        return None
-    common = gcd(gcd(a, b), c)
-    return (a // common, b // common, c // common)
-
-
-def barring_three(walls):
-    """As barring_two, of three walls; no two of these walls bar."""
-    for i, j, k in combinations(range(len(walls)), 3):
-        (u, c), (v, d), (w, e) = walls[i], walls[j], walls[k]
-        weights = weights_of(u, v, w)
-        if weights is not None and weights[0] * c[0] + weights[1] * d[0] + weights[2] * e[0] < 0:
-            return [(i, weights[0]), (j, weights[1]), (k, weights[2])]
-    return []
-
-
 def none_paper(shapes):
     need_shapes(shapes, SHAPES_MOST)
     numbers = empty_by(shapes)
@@ -99,8 +68,7 @@ def none_paper(shapes):
             walls.append(wall)
     if len(walls) > BORDERS_MOST:
         raise TooMany(BORDERS_MOST)
-    barring = barring_two(walls) or barring_three(walls)
-    return ("none", tuple([places[k] + (weight,) for k, weight in barring]))
+    return ("none", tuple([places[k] + (weight,) for k, weight in barring_pairs(walls)]))
 
 
 def is_weighted(row, borders):

@@ -26,6 +26,26 @@ def lesser_of(one, other):
     return other if is_less(other, one) else one
 
 
+def least_ratio(ratios):
+    least = ratios[0]
+    for ratio in ratios:
+        least = lesser_of(least, ratio)
+    return least
+
+
+def ratio_sum(one, other):
+    return reduced(one[0] * other[1] + other[0] * one[1], one[1] * other[1])
+
+
+def ratio_product(one, other):
+    return reduced(one[0] * other[0], one[1] * other[1])
+
+
+def rounded_up(top, bottom):
+    """The least whole number that is not below top / bottom; bottom is above 0."""
+    return 0 - (0 - top) // bottom
+
+
 def middle_of(one, other):
     return reduced(one[0] * other[1] + other[0] * one[1], 2 * one[1] * other[1])
 

@@ -18,6 +18,11 @@ SIX = ((0, 0), (2, 0), (3, 1), (3, 3), (1, 3), (0, 2))
 FLAT = ((-5, 0), (4, 1), (7, 3))
 SHAPES = (POINT, SPOT, STRETCH, LEVEL, UPRIGHT, SQUARE, WEDGE, KITE, SIX, FLAT)
 FULL_SHAPES = (SQUARE, WEDGE, KITE, SIX, FLAT)
+GREAT = ((-BIG, -BIG), (BIG, -BIG), (BIG, BIG), (-BIG, BIG))
+
+FINE_TRIANGLE = (((0, 1), (0, 1)), ((5, 3), (0, 1)), ((0, 1), (5, 4)))
+FINE_STRETCH = (((1, 2), (1, 3)), ((-1, 2), (1, 1)))
+FINE_POINT = (((-7, 3), (1, 6)),)
 
 
 def cross(a, b):

@@ -10,24 +10,12 @@ from gridshapes.rounds import (
     fine_borders, fine_of, fine_place, hull_of, is_fine_shape, is_round, moved, place_in, reach, shape_by,
     sides_of, walls_of)
 from tests.reckon import (
-    BIG, FLAT, FULL_SHAPES, KITE, LEVEL, POINT, SHAPES, SPOT, SQUARE, STRETCH, UPRIGHT, WEDGE, cornered, cross,
-    dot, fine, fraction, fractions, hull, less, pair, place, plus, random_shapes, scaled)
+    BIG, FINE_POINT, FINE_STRETCH, FINE_TRIANGLE, FLAT, FULL_SHAPES, GREAT, KITE, LEVEL, POINT, SHAPES, SPOT, SQUARE,
+    STRETCH, UPRIGHT, WEDGE, cornered, cross, dot, fine, fraction, fractions, hull, less, pair, place, plus,
+    random_shapes, scaled)
 from tests.wrong import (
-    ODD_THINGS, PENTAGRAM, WRONG_POINTS, WRONG_SHAPES, WRONG_SHIFTS, WRONG_VECTORS, check_calls, check_wrong,
+    PENTAGRAM, WRONG_FINES, WRONG_POINTS, WRONG_SHAPES, WRONG_SHIFTS, WRONG_VECTORS, check_calls, check_wrong,
     row_of_things, rows_of)
-
-GREAT = ((-BIG, -BIG), (BIG, -BIG), (BIG, BIG), (-BIG, BIG))
-FINE_TRIANGLE = (((0, 1), (0, 1)), ((5, 3), (0, 1)), ((0, 1), (5, 4)))
-FINE_STRETCH = (((1, 2), (1, 3)), ((-1, 2), (1, 1)))
-FINE_POINT = (((-7, 3), (1, 6)),)
-
-WRONG_FINES = tuple(value for value in ODD_THINGS if value is not None) + (
-    SQUARE, POINT, list(FINE_TRIANGLE), FINE_TRIANGLE[::-1], FINE_TRIANGLE[1:] + FINE_TRIANGLE[:1],
-    FINE_STRETCH[::-1], FINE_POINT * 2, FINE_TRIANGLE + FINE_TRIANGLE[:1], (((2, 2), (0, 1)),), (((0, 1), (True, 1)),),
-    (((0, 1), 0),), (((0, 1), (0, 2)),), ([(0, 1), (0, 1)],),
-    (((0, 1), (0, 1)), ((1, 2), (0, 1)), ((1, 1), (0, 1)), ((0, 1), (1, 1))),
-    (((0, 1), (0, 1)), ((1, 2), (0, 1)), ((1, 1), (0, 1))),
-    tuple(fine(p) for p in PENTAGRAM), tuple(fine(p) for p in cornered(61)), tuple(fine(p) for p in cornered(62)))
 
 
 def second_walls(corners):

@@ -4,7 +4,7 @@ import copy
 import itertools
 
 from gridshapes import errors
-from tests.reckon import BIG, SQUARE, cornered
+from tests.reckon import BIG, FINE_POINT, FINE_STRETCH, FINE_TRIANGLE, SQUARE, cornered, fine
 
 PENTAGRAM = ((0, 0), (4, 3), (-1, 3), (3, 0), (1, 5))
 
@@ -34,6 +34,38 @@ WRONG_SHAPES = ODD_THINGS + (
     PENTAGRAM[:1] * 2, ((0, True),), ((0, 0), (True, 0)), ((0, 0, 0),), ((0, None),), (((0, 1), (0, 1)),),
     ((BIG + 1, 0),), ((0, 0), (0, BIG + 1)), ((0, -BIG - 1), (0, 0)), cornered(61), cornered(62),
     ((0, 0), (1, 0), (1, 1), [0, 1]), ((0, 0), (1, 0), (1, 1), (0, 1), (0, 0)))
+
+WRONG_FINES = tuple(value for value in ODD_THINGS if value is not None) + (
+    SQUARE, ((0, 0),), list(FINE_TRIANGLE), FINE_TRIANGLE[::-1], FINE_TRIANGLE[1:] + FINE_TRIANGLE[:1],
+    FINE_STRETCH[::-1], FINE_POINT * 2, FINE_TRIANGLE + FINE_TRIANGLE[:1], (((2, 2), (0, 1)),), (((0, 1), (True, 1)),),
+    (((0, 1), 0),), (((0, 1), (0, 2)),), ([(0, 1), (0, 1)],),
+    (((0, 1), (0, 1)), ((1, 2), (0, 1)), ((1, 1), (0, 1)), ((0, 1), (1, 1))),
+    (((0, 1), (0, 1)), ((1, 2), (0, 1)), ((1, 1), (0, 1))),
+    tuple(fine(p) for p in PENTAGRAM), tuple(fine(p) for p in cornered(61)), tuple(fine(p) for p in cornered(62)))
+
+WRONG_FINE_POINTS = WRONG_PAIRS + (
+    (0, 0), (1, 2), ((0, 1), 0), (0, (0, 1)), ((0, 1), (0, 2)), ((2, 4), (0, 1)), ((1, -1), (0, 1)), ((1, 0), (0, 1)),
+    ((0, 1), (True, 1)), ((0, True), (0, 1)), [(0, 1), (0, 1)], ([0, 1], (0, 1)), ((0, 1), (0, 1), (0, 1)))
+
+WRONG_FRACTIONS = ODD_THINGS + (
+    (2, 2), (0, 2), (1, -1), (0, 0), (1, 0), (True, 1), (1, True), [1, 2], (1, 2, 3), ((1, 2), (1, 2)), (1.0, 2))
+
+THIRTEEN = ((0, 0), (12, 0), (12, 1), (11, 2), (10, 3), (9, 4), (8, 5), (7, 6), (6, 6), (5, 6), (4, 6), (3, 5), (0, 2))
+
+WRONG_LOOPS = ODD_THINGS + (
+    SQUARE[:2], list(SQUARE[:2]), [SQUARE], (SQUARE, SQUARE, SQUARE), THIRTEEN, list(THIRTEEN), THIRTEEN[:11] * 2,
+    ((0, 0), (1, 0), (1, True)), [(0, 0), (1, 0), [1, 1]], ((0, 0), (1, 0), None), ((0, 0), (BIG + 1, 0), (0, 1)),
+    ((0, 0), (0, -BIG - 1), (-1, 0)), (((0, 1), (0, 1)), ((1, 1), (0, 1)), ((0, 1), (1, 1))), {1: 2, 3: 4, 5: 6},
+    "abc", (0, 1, 2))
+
+CLASHING = (
+    ((0, 0), (2, 2), (2, 0), (0, 2)), ((0, 0), (1, 0), (2, 0)), ((0, 0), (0, 0), (0, 0)), ((0, 0), (1, 0), (1, 0)),
+    ((0, 0), (4, 0), (4, 4), (0, 4), (0, 0)), PENTAGRAM, ((0, 0), (4, 0), (2, 0), (2, 2)),
+    ((0, 0), (4, 0), (4, 4), (2, 0), (0, 4)))
+
+WRONG_SIMPLES = WRONG_LOOPS + CLASHING + (
+    list(SQUARE), SQUARE[::-1], SQUARE[1:] + SQUARE[:1], SQUARE[:1] + SQUARE[:0:-1], ((0, 0), (1, 0), (2, 0), (0, 1)),
+    ((1, 0), (2, 0), (0, 1), (0, 0)), ((1, 0), (0, 0), (0, 1)), [(0, 0), (1, 0), (0, 1)], ((2, 1), (0, 2), (1, 1)))
 
 
 def rows_of(values, error):

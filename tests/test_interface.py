@@ -5,8 +5,14 @@ import inspect
 import unittest
 
 from gridshapes.areas import core_of, counting_triple, rim_of, twice_area
+from gridshapes.finecounts import grid_points_in, nth_point, stretch_points
+from gridshapes.fits import fit_set
+from gridshapes.floorsums import first_remainder, floor_sum, low_remainders
+from gridshapes.greatest import greatest_paper
 from gridshapes.moving import course_of, meeting_time, overlap_time
+from gridshapes.owners import does_own, owned_samples, row_runs
 from gridshapes.rounds import hull_of, sides_of, walls_of
+from gridshapes.shoves import least_walk, shove_along
 from gridshapes.stands import stand_of, stand_paper, stand_shape
 from gridshapes.sums import mixed_of, rest_of, sum_of
 
@@ -34,6 +40,27 @@ INTERFACE = {
         both_moving(mover,still,shift,vector,other_shift,other_vector) leg_paper(mover,still,shift,vector)
         free_paper(mover,still,shift,vector) accepts_leg(mover,still,shift,vector,value)
         accepts_free(mover,still,shift,vector,value)""",
+    "shoves": """shove_along(one,other,shift,way) whole_shove(one,other,shift,way) least_shove(one,other,shift,menu)
+        least_push(one,other,shift) least_walk(one,other,shift) least_king_walk(one,other,shift)
+        first_free(one,others,shift,way) shove_paper(one,other,shift,way) shows_shove(one,other,shift,way,value)""",
+    "fits": """rooms_of(shape,other) does_fit(shape,other,t) fit_set(shape,other) touched_numbers(shape,other,t)
+        farthest(shape,other,t,v) fit_paper(shape,other) accepts_fit(shape,other,value) reached_shape(shape,other)
+        is_reached(shape,other,p) reach_paper(shape,other,p) accepts_reach(shape,other,p,value)""",
+    "greatest": """fine_fold(shape,s) greatest_fit(shape,other) greatest_set(shape,other) least_multiple(shape,other)
+        greatest_paper(shape,other) accepts_greatest(shape,other,value)""",
+    "floorsums": """floor_sum(n,a,b,m) low_remainders(n,a,b,m,r) first_remainder(a,b,m,low,high)
+        floor_moments(n,a,b,m)""",
+    "finecounts": """grid_points_in(fine) grid_points_within(fine) grid_points_on_rim(fine) row_of(fine,y)
+        points_in_rows(fine,low,high) first_row(fine) last_row(fine) rank_of(fine,point) nth_point(fine,n)
+        next_point(fine,point) stretch_points(one,other) spread_of(fine)""",
+    "simples": """is_loop(value) first_clash(loop) is_clash(loop,value) all_clashes(loop) simple_of(loop)
+        is_simple(value) simple_twice(simple) rim_points(simple) points_within(simple) where_is(simple,point)
+        sides_under(simple,point)""",
+    "owners": """does_own(simple,point) owners_among(simples,point) owned_samples(simple,*,s=(0,1),t=(0,1))
+        owned_below(simple,j,*,s=(0,1),t=(0,1)) row_runs(simple,j,*,s=(0,1),t=(0,1))
+        owned_sample(simple,n,*,s=(0,1),t=(0,1)) number_of_sample(simple,i,j,*,s=(0,1),t=(0,1))""",
+    "pieces": """are_parting(simple,pieces) first_flaw(simple,pieces) accepts_flaw(simple,pieces,value) ears_of(simple)
+        told_triangles(simple) diagonals_of(simple) pieces_by(simple,diagonals) fewest_round(simple)""",
 }
 
 
@@ -81,6 +108,28 @@ class Examples(unittest.TestCase):
         self.assertEqual(course_of(*leg), [
             ((0, 1), "apart", "apart"), ((1, 2), "touch", "overlap"), ((11, 12), "touch", "apart"),
             ((1, 1), "apart", None)])
+
+    def test_shoves(self):
+        self.assertEqual((shove_along(self.square, self.wedge, (3, 0), (0, 1)),
+                          least_walk(self.square, self.wedge, (3, 0))), ((3, 4), (1, (1, 0))))
+
+    def test_fits(self):
+        self.assertEqual(fit_set(self.square, self.wedge), (((0, 1), (0, 1)), ((5, 3), (0, 1)), ((0, 1), (5, 4))))
+        self.assertEqual(greatest_paper(self.square, self.wedge), (
+            "greatest", (12, 7), ((0, 1), (0, 1)), ((0, (4, 7)), (1, (1, 7)), (2, (3, 7)))))
+
+    def test_floor_sums_and_grid_points(self):
+        self.assertEqual((floor_sum(4, 3, 1, 2), low_remainders(10, 3, 1, 7, 2), first_remainder(3, 1, 7, 5, 6)),
+                         (10, 4, 4))
+        fine = (((0, 1), (0, 1)), ((5, 3), (0, 1)), ((0, 1), (5, 4)))
+        self.assertEqual((grid_points_in(fine), nth_point(fine, 2), stretch_points(((0, 1), (1, 2)), ((4, 1), (5, 2)))),
+                         (3, (0, 1), ((1, 1), (2, 1), 2)))
+
+    def test_owners(self):
+        simple = ((0, 0), (2, 0), (0, 2))
+        self.assertTrue(all(does_own(simple, p) for p in ((0, 0), (1, 0), (0, 1))))
+        self.assertEqual((owned_samples(simple), row_runs(simple, 0), row_runs(simple, 1)), (3, ((0, 1),), ((0, 0),)))
+        self.assertEqual(owned_samples(simple, s=(1, 2), t=(1, 2)), 1)
 
 
 if __name__ == "__main__":

@@ -43,11 +43,15 @@ def added_corners(one, other):
     return corners_by(vector_sum(one[0], other[0]), sides)
 
 
+def lowest_first(corners):
+    """The same row of corners, a list, going round from the lowest one."""
+    at = corners.index(min(corners, key=lambda point: (point[1], point[0])))
+    return tuple(corners[at:] + corners[:at])
+
+
 def turned_corners(corners):
     """The corners of all 0 - p: the turn stays, only another one is the lowest."""
-    turned = [turned_about(corner) for corner in corners]
-    at = turned.index(min(turned, key=lambda point: (point[1], point[0])))
-    return tuple(turned[at:] + turned[:at])
+    return lowest_first([turned_about(corner) for corner in corners])
 
 
 def moved_corners(corners, vector):

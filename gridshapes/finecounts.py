@@ -1,19 +1,13 @@
 """The grid points of fine shapes: how many there are, their rows, their order and their sums."""
 
 from gridshapes.errors import NoCount, NoPoint
-from gridshapes.finerows import first_row_from, points_along, rim_many, row_by, row_lines, turned_triples
+from gridshapes.finerows import first_row_from, grid_many, points_along, rim_many, row_by, row_lines, turned_triples
 from gridshapes.floors import moments_by
 from gridshapes.floorsums import need_number
 from gridshapes.numbers import is_fine_point, is_number, need_point
-from gridshapes.rounds import need_fine
-from gridshapes.rowlines import all_in, row_with, summed_rows
-from gridshapes.triples import triple_of, triples_of
-
-
-def need_triples(fine):
-    """The corners of a fine shape as triples, [] of the empty one."""
-    need_fine(fine)
-    return [] if fine is None else triples_of(fine)
+from gridshapes.rounds import need_triples
+from gridshapes.rowlines import row_with, summed_rows
+from gridshapes.triples import triple_of
 
 
 def need_lines(fine):
@@ -22,8 +16,7 @@ def need_lines(fine):
 
 
 def grid_points_in(fine):
-    rights, lefts = need_lines(fine)
-    return all_in(rights + lefts)
+    return grid_many(need_triples(fine))
 
 
 def grid_points_on_rim(fine):

@@ -8,7 +8,7 @@ from math import gcd
 
 from gridshapes.floors import first_whole
 from gridshapes.ratios import rounded_up
-from gridshapes.rowlines import worth_in
+from gridshapes.rowlines import all_in, worth_in
 from gridshapes.triples import from_lowest, is_lower
 
 
@@ -72,6 +72,12 @@ def row_lines(triples):
     rights = [right_line(low, high, k + 1 == len(rising)) for k, (low, high) in enumerate(rising)]
     lefts = [left_line(low, high, k + 1 == len(falling)) for k, (low, high) in enumerate(falling)]
     return ([line for line in rights if line[0] < line[1]], [line for line in lefts if line[0] < line[1]])
+
+
+def grid_many(triples):
+    """How many grid points there are."""
+    rights, lefts = row_lines(triples)
+    return all_in(rights + lefts)
 
 
 def row_by(rights, lefts, y):

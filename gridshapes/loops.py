@@ -2,7 +2,7 @@
 
 from itertools import combinations
 
-from gridshapes.corners import twice_by
+from gridshapes.corners import lowest_first, twice_by
 from gridshapes.numbers import cross, dot, vector_from
 
 
@@ -65,8 +65,7 @@ def told_loop(points):
     if twice_by(row) < 0:
         row = row[::-1]
     bent = [row[k] for k in range(len(row)) if turn_at(row[k - 1], row[k], row[k + 1 - len(row)]) != 0]
-    at = bent.index(min(bent, key=lambda point: (point[1], point[0])))
-    return tuple(bent[at:] + bent[:at])
+    return lowest_first(bent)
 
 
 def side_of(side, triple):

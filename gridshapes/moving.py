@@ -9,8 +9,8 @@ from gridshapes.papers import has_word
 from gridshapes.ratios import ALL_OF_IT, NONE_OF_IT, in_order, lesser_of, middle_of
 from gridshapes.rounds import is_round, need_shape
 from gridshapes.shifting import (
-    are_both_in, are_both_within, are_full, barring_rows, common_at, ends_by, is_barring_line, is_parting_line,
-    parting_rows, shifted_triples, tried_directions, word_by)
+    are_both_in, are_both_within, are_full, barring_rows, common_at, ends_by, first_parting, is_barring_line,
+    is_parting_line, shifted_triples, tried_directions, word_by)
 from gridshapes.triples import fine_point_of, mean_of, triple_of, triples_of
 
 MENU_MOST = 24
@@ -104,8 +104,7 @@ def leg_paper(mover, still, shift, vector):
     need_leg(mover, still, shift, vector)
     times = meeting_by(mover, still, shift, vector)
     if times is None:
-        swept = swept_corners(mover, shift, vector)
-        u, near_end = parting_rows(tried_directions(swept, still), triples_of(swept), triples_of(still))[0]
+        u, near_end = first_parting(swept_corners(mover, shift, vector), still)
         return ("apart", u, near_end)
     moment = times[0]
     common = common_at(mover, still, shift_at(shift, vector, moment))

@@ -36,6 +36,12 @@ def need_fine(fine):
         raise NoFine(fine)
 
 
+def need_triples(fine):
+    """The corners of a fine shape as triples, [] of the empty one."""
+    need_fine(fine)
+    return [] if fine is None else triples_of(fine)
+
+
 def left_chain(points):
     """The corners from the first point to the last one that turn left all the way."""
     chain = []

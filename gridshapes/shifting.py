@@ -79,6 +79,11 @@ def parting_rows(directions, near, far):
     return [(u, greatest_end(u, near)) for u in directions if parts_by(u, near, far)]
 
 
+def first_parting(one, other):
+    """The first of the trial walls that parts both as they lie, and its near end; they are apart."""
+    return parting_rows(tried_directions(one, other), triples_of(one), triples_of(other))[0]
+
+
 def barring_rows(directions, near, far):
     """The pairs of a direction by which both do not overlap and its near end."""
     return [(u, greatest_end(u, near)) for u in directions if bars_by(u, near, far)]

@@ -7,7 +7,7 @@ from math import gcd, lcm
 
 from gridshapes.corners import directions_by, do_rise, is_full
 from gridshapes.numbers import bare_of
-from gridshapes.ratios import greater_of, lesser_of, reduced
+from gridshapes.ratios import NONE_OF_IT, greater_of, lesser_of, ratio_sum, reduced
 
 
 def triple_of(p):
@@ -54,6 +54,14 @@ def mean_of(triples):
     for triple in triples:
         total = triple_sum(total, triple)
     return lowest_terms(total[0], total[1], total[2] * len(triples))
+
+
+def twice_at(triples):
+    """Twice the area, a fraction; 0 of no corners."""
+    total = NONE_OF_IT
+    for (x, y, w), (a, b, c) in zip(triples, triples[1:] + triples[:1]):
+        total = ratio_sum(total, reduced(x * b - y * a, w * c))
+    return total
 
 
 def is_lower(one, other):

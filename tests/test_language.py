@@ -26,6 +26,9 @@ STATEMENTS = (
     ast.FunctionDef, ast.ClassDef, ast.Return, ast.Delete, ast.Assign, ast.AugAssign, ast.For, ast.While, ast.If,
     ast.With, ast.Raise, ast.Try, ast.Assert, ast.ImportFrom, ast.Expr, ast.Pass, ast.Break, ast.Continue,
     ast.Nonlocal)
+DOUBLE = ("__init__", "__eq__", "__len__")
+NO_BEGINNING = re.compile(
+    r"_(wall|pe_|dcw_|enum_|cm_|twin_re_|lay_|law_|stub_|sre|cold|tuplegetter|outside|record|written_out|member_names)")
 FLOW = ("any", "all", "min", "max", "sum", "sorted", "list", "tuple", "dict", "enumerate", "zip")
 
 
@@ -34,8 +37,22 @@ def trees():
         yield path, ast.parse(path.read_text(encoding="ascii"))
 
 
+def own_attributes():
+    """The names of all methods and of all attributes that are assigned, class by class; of errors too."""
+    told = {}
+    for _, tree in trees():
+        for node in ast.walk(tree):
+            if isinstance(node, ast.ClassDef):
+                methods = {row.name for row in node.body if isinstance(row, ast.FunctionDef)}
+                stored = {row.attr for row in ast.walk(node)
+                          if isinstance(row, ast.Attribute) and isinstance(row.ctx, ast.Store)}
+                told[node.name] = (methods, stored)
+    return told
+
+
 def bound_names(tree):
     """Pairs of a bound name and the kind of its binding."""
+    methods = [row for node in ast.walk(tree) if isinstance(node, ast.ClassDef) for row in node.body]
     for node in ast.walk(tree):
         if isinstance(node, ast.arg):
             yield node.arg, "local"
@@ -45,7 +62,7 @@ def bound_names(tree):
             for name in node.names:
                 yield name.name, "import"
         elif isinstance(node, (ast.FunctionDef, ast.ClassDef)):
-            yield node.name, "def"
+            yield node.name, "method" if node in methods else "def"
 
 
 class Language(unittest.TestCase):
@@ -72,7 +89,35 @@ class Language(unittest.TestCase):
                     self.assertLessEqual(node.end_lineno - node.lineno + 1, 40, (path, node.name))
                     self.assertEqual(node.decorator_list, [], (path, node.name))
 
+    def test_classes(self):
+        for name, (methods, stored) in own_attributes().items():
+            self.assertEqual(methods & stored, set(), name)
+            self.assertEqual((methods | stored) & (METHODS - {"__init__"}), set(), name)
+        for path, tree in trees():
+            for node in ast.walk(tree):
+                if not isinstance(node, ast.FunctionDef) or node.name not in ("__eq__", "__len__"):
+                    continue
+                self.assertEqual([row.__class__ for row in node.body], [ast.Return], path)
+                if node.name == "__len__":
+                    self.assertEqual(node.body[0].value.func.id, "len", path)
+
+    def test_tries(self):
+        for path, tree in trees():
+            for node in ast.walk(tree):
+                if not isinstance(node, ast.Try):
+                    continue
+                for handler in node.handlers:
+                    names = handler.type.elts if isinstance(handler.type, ast.Tuple) else [handler.type]
+                    self.assertLessEqual({name.id for name in names}, {"ShapeError", "TooMany"}, path)
+                for row in node.finalbody:
+                    self.assertIsInstance(row, ast.Assign, path)
+                    for part in ast.walk(row):
+                        self.assertNotIsInstance(part, (ast.Call, ast.Subscript, ast.BinOp, ast.List), path)
+
     def test_statements_and_signs(self):
+        own = {"told", "most"}
+        for methods, stored in own_attributes().values():
+            own |= methods | stored
         for path, tree in trees():
             for node in ast.walk(tree):
                 here = (path.name, getattr(node, "lineno", 0))
@@ -88,7 +133,7 @@ class Language(unittest.TestCase):
                 if isinstance(node, ast.Raise):
                     self.assertIsInstance(node.exc, ast.Call, here)
                 if isinstance(node, ast.Attribute):
-                    self.assertIn(node.attr, METHODS | {"told", "most"}, here)
+                    self.assertIn(node.attr, METHODS | own, here)
                 if isinstance(node, ast.BinOp) and isinstance(node.op, ast.Pow):
                     self.assertIsInstance(node.right, ast.Constant, here)
                     self.assertNotEqual(getattr(node.left, "value", 0), 2, here)
@@ -98,12 +143,13 @@ class Language(unittest.TestCase):
         for path, tree in trees():
             rows = list(bound_names(tree))
             imports = [name for name, kind in rows if kind == "import"]
-            defined = [name for name, kind in rows if kind == "def" and name != "__init__"]
+            defined = [name for name, kind in rows if kind == "def" and name not in DOUBLE]
             self.assertEqual(len(imports + defined), len(set(imports + defined)), path)
             for name, kind in rows:
                 self.assertNotIn(name, taken, path)
                 self.assertNotRegex(name, NOT_USED, path)
-                self.assertFalse(name.startswith("__") and name != "__init__", path)
+                self.assertFalse(name.startswith("__") and name not in DOUBLE, path)
+                self.assertNotRegex(name, NO_BEGINNING, path)
                 if kind == "local":
                     self.assertNotIn(name, imports + defined, path)
             for node in ast.walk(tree):

@@ -1,10 +1,15 @@
 """The interface as the document writes it: names, arguments, and where they are defined; its examples."""
 
+import builtins
+import doctest
 import importlib
 import inspect
+import pathlib
 import unittest
 
 from gridshapes.areas import core_of, counting_triple, rim_of, twice_area
+from gridshapes.claims import sense_of, told_claim
+from gridshapes.cuts import cut_along, fine_twice
 from gridshapes.finecounts import grid_points_in, nth_point, stretch_points
 from gridshapes.fits import fit_set
 from gridshapes.floorsums import first_remainder, floor_sum, low_remainders
@@ -15,6 +20,7 @@ from gridshapes.rounds import hull_of, sides_of, walls_of
 from gridshapes.shoves import least_walk, shove_along
 from gridshapes.stands import stand_of, stand_paper, stand_shape
 from gridshapes.sums import mixed_of, rest_of, sum_of
+from gridshapes.texts import write_text, write_value
 
 INTERFACE = {
     "numbers": """is_fraction(value) is_point(value) is_fine_point(value) fraction_of(top,bottom) comes_ahead(one,other)
@@ -61,6 +67,30 @@ INTERFACE = {
         owned_sample(simple,n,*,s=(0,1),t=(0,1)) number_of_sample(simple,i,j,*,s=(0,1),t=(0,1))""",
     "pieces": """are_parting(simple,pieces) first_flaw(simple,pieces) accepts_flaw(simple,pieces,value) ears_of(simple)
         told_triangles(simple) diagonals_of(simple) pieces_by(simple,diagonals) fewest_round(simple)""",
+    "cuts": """cut_by(fine,walls) cut_along(fine,first,second) cells_of(fine,lines) fine_twice(fine)
+        is_in_fine(fine,point) is_within_fine(fine,point)""",
+    "sweeps": """swept_by(shape,shift,v) swept_shapes(shape,shift,legs) met_moments(shape,shift,legs,other)
+        first_met(shape,shift,legs,other) swept_points(shape,shift,legs) fresh_points(shape,shift,legs)
+        swept_twice(shape,shift,legs) sweep_paper(shape,shift,legs,other) shows_sweep(shape,shift,legs,other,value)""",
+    "ways": """is_floor(value) hit_at(floor,t) stands_free(floor,t) goes(floor,t,number) stopped_by(floor,t,number)
+        led_to(floor,t,row) reached_from(floor,t) distances_from(floor,t) farthest_from(floor,t) room_of(floor,t)
+        told_row(floor,t,goal) is_enough_lifted(floor,t,goal,lot) least_lifted(floor,t,goal) way_paper(floor,t,goal)
+        accepts_way(floor,t,goal,value) least_paper(floor,t,goal) accepts_least(floor,t,goal,value)""",
+    "likeness": """is_grid_map(value) point_led(grid,point) vector_led(grid,vector) shape_led(grid,shape)
+        map_behind(grid,other) map_back(grid) map_of_frames(shape,j,other,n,turn) are_like(one,other)
+        all_maps(one,other) own_maps(shape) like_map(one,other) upright_image(shape,j,turn) likeness_form(shape)
+        map_to_form(shape) like_paper(one,other) accepts_like(one,other,paper)""",
+    "claims": """is_question(value) is_claim(value) is_right(value) told_claim(question) sense_of(claim)
+        words_of(question) claim_led(grid,claim) first_wrong(claims)""",
+    "texts": """is_value(value) is_thing(value) write_value(value) read_value(line) write_text(thing) read_text(text)
+        write_live(live) read_live(text) lines_due(text)""",
+}
+
+CLASSES = {
+    ("floor", "Live"): """__init__(self,floor,t) floor(self) place(self) deeds(self) was(self,moment) lead(self,row)
+        lead_to(self,goal) lift(self,number) lay(self,shape) put(self,number,v) undo(self) redo(self) __len__(self)
+        trying(self,guest,*,kept=False) twin(self) __eq__(self,other)""",
+    ("console", "Console"): "__init__(self) run(self,line)",
 }
 
 
@@ -74,6 +104,19 @@ class Interface(unittest.TestCase):
                 self.assertEqual(function.__module__, module.__name__)
                 told = function.__name__ + str(inspect.signature(function)).replace(" ", "")
                 self.assertEqual(told, row)
+
+
+    def test_classes_and_their_methods(self):
+        for (name, title), rows in CLASSES.items():
+            module = importlib.import_module(f"gridshapes.{name}")
+            told = getattr(module, title)
+            self.assertTrue(inspect.isclass(told))
+            self.assertEqual(told.__module__, module.__name__)
+            for row in rows.split():
+                # Each method stands in the class itself.
+                method = vars(told)[row.partition("(")[0]]
+                self.assertTrue(inspect.isfunction(method), row)
+                self.assertEqual(method.__name__ + str(inspect.signature(method)).replace(" ", ""), row)
 
 
 class Examples(unittest.TestCase):
@@ -130,6 +173,26 @@ class Examples(unittest.TestCase):
         self.assertTrue(all(does_own(simple, p) for p in ((0, 0), (1, 0), (0, 1))))
         self.assertEqual((owned_samples(simple), row_runs(simple, 0), row_runs(simple, 1)), (3, ((0, 1),), ((0, 0),)))
         self.assertEqual(owned_samples(simple, s=(1, 2), t=(1, 2)), 1)
+
+    def test_cuts(self):
+        square = (((0, 1), (0, 1)), ((2, 1), (0, 1)), ((2, 1), (2, 1)), ((0, 1), (2, 1)))
+        self.assertEqual([fine_twice(part) for part in cut_along(square, (0, 1), (2, 2))], [(2, 1), (6, 1)])
+
+    def test_claims_and_texts(self):
+        self.assertEqual(sense_of(told_claim(("stand", self.square, self.wedge, (5, 0)))), "apart")
+        self.assertEqual(write_text(("fine", (((0, 1), (0, 1)), ((5, 3), (0, 1)), ((0, 1), (5, 4))))),
+                         "fine 0 0 5/3 0 0 5/4")
+        self.assertEqual(write_value(("shut", ((0, 0), (1, 0)))), "( shut ( ( 0 0 ) ( 1 0 ) ) )")
+
+
+class Readme(unittest.TestCase):
+    def test_its_examples(self):
+        # Whatever is shown there is kept as a builtin, which others are not to see.
+        self.addCleanup(vars(builtins).pop, "_", None)
+        path = pathlib.Path(__file__).resolve().parent.parent / "README.md"
+        told = doctest.testfile(str(path), module_relative=False)
+        self.assertEqual(told.failed, 0)
+        self.assertGreater(told.attempted, 20)
 
 
 if __name__ == "__main__":

@@ -5,8 +5,8 @@ from math import gcd
 from gridshapes.numbers import is_number
 
 FIGURES_MOST = 200
-# The least number with more figures.
-NUMBER_END = 10 ** 200
+# The least number with more figures; as a product, since no power here may be by more than 64.
+NUMBER_END = 10 ** 50 * 10 ** 50 * 10 ** 50 * 10 ** 50
 LETTERS_MOST = 12
 ITEMS_MOST = 400
 DEPTH_MOST = 12

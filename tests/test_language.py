@@ -29,6 +29,19 @@ STATEMENTS = (
 DOUBLE = ("__init__", "__eq__", "__len__")
 NO_BEGINNING = re.compile(
     r"_(wall|pe_|dcw_|enum_|cm_|twin_re_|lay_|law_|stub_|sre|cold|tuplegetter|outside|record|written_out|member_names)")
+POWER_MOST = 64
+# Places of a power at a file's top and in functions; BY stands for what it is by.
+POWERS = (
+    "END = 10 ** BY", "END = 10 ** 50 * 10 ** BY", "END = 0 - (10 ** BY) ** 3", "ENDS = (1, (2, 10 ** BY))",
+    "ENDS = {10 ** BY: 1}", "class Box:\n    END = 10 ** BY", "def end(most=10 ** BY):\n    return most",
+    "def end():\n    return 10 ** BY", "def end(k):\n    return k ** BY", "def end(k):\n    k **= BY\n    return k",
+    "def end(box):\n    box.many **= BY", "def end(rows):\n    return [row ** BY for row in rows]",
+    "def end(k):\n    return f'{k ** BY}'", "def end(rows):\n    return sorted(rows, key=lambda row: row ** BY)",
+    "def end(k):\n    def inner(n):\n        return n ** BY\n    return inner(k)",
+    "class Box:\n    def end(self):\n        if self.many > 10 ** BY:\n            return 1\n        return 0")
+POWERS_LET = ("0", "1", "2", "50", "63", "64")
+POWERS_BARRED = ("65", "66", "100", "200", "1000", "-1", "-65", "k", "END", "True", "None", "1.5", "(60 + 4)",
+                 "(60 + 5)", "int(3)", "2 ** 3", "65 ** 1", "rows[0]")
 FLOW = ("any", "all", "min", "max", "sum", "sorted", "list", "tuple", "dict", "enumerate", "zip")
 
 
@@ -63,6 +76,19 @@ def bound_names(tree):
                 yield name.name, "import"
         elif isinstance(node, (ast.FunctionDef, ast.ClassDef)):
             yield node.name, "method" if node in methods else "def"
+
+
+def wrong_powers(tree):
+    """The lines of powers that are by anything but a literal number from 0 to 64."""
+    lines = []
+    for node in ast.walk(tree):
+        if not isinstance(node, (ast.BinOp, ast.AugAssign)) or not isinstance(node.op, ast.Pow):
+            continue
+        by = node.right if isinstance(node, ast.BinOp) else node.value
+        # A literal number has no sign; True is a literal, but no number.
+        if not isinstance(by, ast.Constant) or by.value.__class__ is not int or by.value > POWER_MOST:
+            lines.append(node.lineno)
+    return lines
 
 
 class Language(unittest.TestCase):
@@ -135,8 +161,19 @@ class Language(unittest.TestCase):
                 if isinstance(node, ast.Attribute):
                     self.assertIn(node.attr, METHODS | own, here)
                 if isinstance(node, ast.BinOp) and isinstance(node.op, ast.Pow):
-                    self.assertIsInstance(node.right, ast.Constant, here)
                     self.assertNotEqual(getattr(node.left, "value", 0), 2, here)
+
+    def test_powers(self):
+        for path, tree in trees():
+            self.assertEqual(wrong_powers(tree), [], path)
+
+    def test_powers_are_seen(self):
+        for text in POWERS:
+            line = text[:text.index("BY")].count("\n") + 1
+            for by in POWERS_LET:
+                self.assertEqual(wrong_powers(ast.parse(text.replace("BY", by))), [], (text, by))
+            for by in POWERS_BARRED:
+                self.assertIn(line, wrong_powers(ast.parse(text.replace("BY", by))), (text, by))
 
     def test_names(self):
         taken = set(dir(builtins))

@@ -21,6 +21,9 @@ from tests.wrong import (
     rows_of)
 
 MOST = 10 ** 200 - 1
+# Numbers of just 200 figures and of just 201, the least and the greatest of each among them, by hand.
+LONG = ("1" + "0" * 199, "1" + "0" * 198 + "1", "8" * 200, "9" * 199 + "8", "9" * 200)
+TOO_LONG = ("1" + "0" * 200, "1" + "0" * 199 + "1", "8" * 201, "9" * 200 + "8", "9" * 201)
 DEEP = ()
 for _ in range(11):
     DEEP = (DEEP,)
@@ -69,6 +72,32 @@ NUMBERS = ("00", "01", "-0", "-01", "+1", "1.", "1.0", "1_0", "0x1", "", "-", "-
            "-" + "9" * 201, "1e3")
 
 
+def signed(words):
+    """Words of numbers, and those of the numbers below 0 beside them."""
+    return [sign + word for word in words for sign in ("", "-")]
+
+
+def with_lines(word):
+    """Pairs of a value with a number in it, and its line."""
+    number = deepest = int(word)
+    for _ in range(12):
+        deepest = (deepest,)
+    return ((number, word), ((number,), f"( {word} )"), (("to", (0, number), None), f"( to ( 0 {word} ) . )"),
+            (deepest, "( " * 12 + word + " )" * 12))
+
+
+def with_texts(word):
+    """Pairs of a thing with a number in it, and its text."""
+    number = int(word)
+    return [(("value", value), f"value {line}") for value, line in with_lines(word)] + [
+        (("map", (1, 0, 0, 1, number, 0)), f"map 1 0 0 1 {word} 0"),
+        (("map", (1, 0, 0, -1, 7, number)), f"map 1 0 0 -1 7 {word}"),
+        (("fine", (((number, 1), (0, 1)),)), f"fine {word} 0"),
+        (("walls", (((1, number), (1, 2)),)), f"walls\nwall 1 {word} 1/2"),
+        (("walls", (((number, 1), (1, 2)),)), f"walls\nwall {word} 1 1/2"),
+        (("walls", (((1, 0), (number, 1)),)), f"walls\nwall 1 0 {word}")]
+
+
 def second_words(value):
     if isinstance(value, tuple):
         return " ".join(["("] + [second_words(item) for item in value] + [")"])
@@ -104,6 +133,19 @@ class Values(unittest.TestCase):
             self.assertEqual(told, value)
             self.assertEqual(repr(told), repr(value))
         self.assertEqual(write_value(("shut", ((0, 0), (1, 0)))), "( shut ( ( 0 0 ) ( 1 0 ) ) )")
+
+    def test_figures(self):
+        self.assertEqual([len(word) for word in LONG + TOO_LONG], [200] * 5 + [201] * 5)
+        for word in signed(LONG):
+            for value, line in with_lines(word):
+                self.assertIs(is_value(value), True, line)
+                self.assertEqual(write_value(value), line)
+                self.assertEqual(read_value(line), value)
+        for word in signed(TOO_LONG):
+            for value, line in with_lines(word):
+                self.assertIs(is_value(value), False, line)
+                assert_raises_told(self, NoThing, value, write_value, value)
+                assert_raises_told(self, BadText, 0, read_value, line)
 
     def test_claims_are_values(self):
         for question, _ in all_questions():
@@ -182,6 +224,19 @@ class Things(unittest.TestCase):
                       ("fine", (((1, 10 ** 200), (0, 1)),))):
             # Such a number has no text.
             self.assertIs(is_thing(thing), False)
+        for word in signed(LONG):
+            for thing, text in with_texts(word):
+                self.assertIs(is_thing(thing), True, text)
+                self.assertEqual(write_text(thing), text)
+                self.assertEqual(read_text(text), thing)
+                self.assertEqual(lines_due(text), text.count("\n") + 1)
+        for word in signed(TOO_LONG):
+            for thing, text in with_texts(word):
+                self.assertIs(is_thing(thing), False, text)
+                assert_raises_told(self, NoThing, thing, write_text, thing)
+                line = text.count("\n")
+                assert_raises_told(self, BadText, line, read_text, text)
+                self.assertEqual(lines_due(text), line)
         self.assertEqual(read_text(f"map 1 0 0 1 {MOST} -{MOST}"), ("map", (1, 0, 0, 1, MOST, -MOST)))
         self.assertEqual(read_text(f"fine 1/{MOST} -{MOST}"), ("fine", (((1, MOST), (-MOST, 1)),)))
 
